@@ -1,0 +1,1 @@
+"""Groups told by words that are nothing."""
