@@ -15,7 +15,7 @@ EXPRESSIONS = (ast.Constant, ast.Name, ast.Attribute, ast.Subscript, ast.Slice, 
                ast.unaryop, ast.boolop, ast.cmpop)
 BUILT_IN = ("len range enumerate zip min max sum abs sorted reversed int str bool list tuple dict set isinstance "
             "ord repr any all divmod Exception ValueError KeyError").split()
-METHODS = "append clear copy count extend find get index insert items keys pop remove reverse values".split()
+METHODS = "append clear copy count extend find get index insert items join keys pop remove reverse values".split()
 NOT_USED = ("type typing enum Enum Generic Protocol ABC namedtuple register mro elements open input").split()
 
 
