@@ -2,8 +2,15 @@
 
 from tablegroups.circles import circle_sizes
 from tablegroups.reading import TooLong, Wrong, read_text
+from tablegroups.tables import count_all, count_unalike, is_normal, most_places, places_of, whole_moves
 
 LONGEST_TEXT = 4096
+MOST_PLACES_AT_ALL = 8
+
+COUNT_WHOLE = 0
+COUNT_UNALIKE = 1
+COUNT_NORMAL = 2
+COUNT_ALL = 3
 
 MOST_REFUSED = -1
 ARGUMENTS_REFUSED = -2
@@ -29,6 +36,10 @@ def gw_check(text):
 
 def gw_free(most, text):
     return answer_or_refusal(lambda: free_answer(most, text))
+
+
+def gw_count(n, what, text):
+    return answer_or_refusal(lambda: count_answer(n, what, text))
 
 
 # The one place that knows which number stands for which refusal.
@@ -61,8 +72,29 @@ def free_answer(most, text):
     return [len(signs)] + [ord(sign) for sign in signs]
 
 
+def count_answer(n, what, text):
+    check_length(text)
+    check_range(n, 1, MOST_PLACES_AT_ALL)
+    check_range(what, COUNT_WHOLE, COUNT_ALL)
+    group = group_of(text)
+    check_range(n, 1, most_places(group))
+    up_to_n = whole_moves(group, n)
+    if what == COUNT_ALL:
+        return [count_all(up_to_n, n)]
+    whole = [moves for moves in up_to_n if places_of(moves) == n]
+    if what == COUNT_UNALIKE:
+        return [count_unalike(whole)]
+    if what == COUNT_NORMAL:
+        return [len([moves for moves in whole if is_normal(moves)])]
+    return [len(whole)]
+
+
 def check_length(text):
-    if len(text) > LONGEST_TEXT:
+    check_range(len(text), 0, LONGEST_TEXT)
+
+
+def check_range(number, least, most):
+    if number < least or number > most:
         raise WrongArguments()
 
 
