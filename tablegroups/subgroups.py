@@ -2,7 +2,7 @@
 
 from tablegroups.circles import circle_sizes
 from tablegroups.reading import TooLong, Wrong, read_text
-from tablegroups.tables import count_all, count_unalike, is_normal, most_places, places_of, whole_moves
+from tablegroups.tables import count_all, count_unalike, is_normal, most_places, places_of, table_numbers, whole_moves
 
 LONGEST_TEXT = 4096
 MOST_PLACES_AT_ALL = 8
@@ -15,6 +15,7 @@ COUNT_ALL = 3
 MOST_REFUSED = -1
 ARGUMENTS_REFUSED = -2
 TEXT_REFUSED = -3
+NO_SUCH_REFUSED = -5
 TOO_LONG_REFUSED = -6
 
 
@@ -30,6 +31,10 @@ class WrongText(Exception):
     pass
 
 
+class NoSuch(Exception):
+    pass
+
+
 def gw_check(text):
     return answer_or_refusal(lambda: check_answer(text))
 
@@ -42,6 +47,10 @@ def gw_count(n, what, text):
     return answer_or_refusal(lambda: count_answer(n, what, text))
 
 
+def gw_table(n, j, text):
+    return answer_or_refusal(lambda: table_answer(n, j, text))
+
+
 # The one place that knows which number stands for which refusal.
 def answer_or_refusal(find_answer):
     try:
@@ -52,6 +61,8 @@ def answer_or_refusal(find_answer):
         return [ARGUMENTS_REFUSED]
     except WrongText:
         return [TEXT_REFUSED]
+    except NoSuch:
+        return [NO_SUCH_REFUSED]
     except TooLong:
         return [TOO_LONG_REFUSED]
 
@@ -73,20 +84,31 @@ def free_answer(most, text):
 
 
 def count_answer(n, what, text):
-    check_length(text)
-    check_range(n, 1, MOST_PLACES_AT_ALL)
     check_range(what, COUNT_WHOLE, COUNT_ALL)
-    group = group_of(text)
-    check_range(n, 1, most_places(group))
+    group = group_with_places(n, text)
     up_to_n = whole_moves(group, n)
     if what == COUNT_ALL:
         return [count_all(up_to_n, n)]
-    whole = [moves for moves in up_to_n if places_of(moves) == n]
+    whole = of_places(up_to_n, n)
     if what == COUNT_UNALIKE:
         return [count_unalike(whole)]
     if what == COUNT_NORMAL:
         return [len([moves for moves in whole if is_normal(moves)])]
     return [len(whole)]
+
+
+def table_answer(n, j, text):
+    if j < 0:
+        raise WrongArguments()
+    group = group_with_places(n, text)
+    tables = sorted([table_numbers(moves) for moves in of_places(whole_moves(group, n), n)])
+    if j >= len(tables):
+        raise NoSuch()
+    return [0] + tables[j]
+
+
+def of_places(whole, n):
+    return [moves for moves in whole if places_of(moves) == n]
 
 
 def check_length(text):
@@ -96,6 +118,15 @@ def check_length(text):
 def check_range(number, least, most):
     if number < least or number > most:
         raise WrongArguments()
+
+
+# How large n may be depends on the letters, so the text comes between.
+def group_with_places(n, text):
+    check_length(text)
+    check_range(n, 1, MOST_PLACES_AT_ALL)
+    group = group_of(text)
+    check_range(n, 1, most_places(group))
+    return group
 
 
 def group_of(text):
