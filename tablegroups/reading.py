@@ -1,4 +1,4 @@
-"""Reads a group's text: its letters, and its words with all their letters written out."""
+"""Reads a group's text, or a word by itself: the letters, and the words with all their letters written out."""
 
 MOST_LETTERS = 8
 MOST_WORDS = 32
@@ -18,7 +18,11 @@ SQUARE_END = 93
 SMALL_A = 97
 SMALL_Z = 122
 BAR = 124
-NO_BRACKET = 0
+
+# In the place of a bracket, where words stand outside of all of them: those of
+# a text, or a word handed in by itself, which no comma ends.
+WORDS_OF_TEXT = 0
+WORD_ALONE = 1
 
 GREAT_TO_SMALL = 32
 
@@ -51,17 +55,27 @@ class Level:
 
 
 def read_text(text):
-    signs = [sign for sign in text if sign != BLANK]
+    signs = without_blanks(text)
     if BAR not in signs:
         raise Wrong()
     bar = signs.index(BAR)
     letters = signs[:bar]
     check_letters(letters)
-    words = read_words(signs[bar + 1:], letters)
+    word_signs = signs[bar + 1:]
+    words = read_words(word_signs, letters, WORDS_OF_TEXT) if word_signs else []
     # Only here, so that a word that is too long is told even behind the 32nd.
     if len(words) > MOST_WORDS:
         raise Wrong()
     return Group(letters, words)
+
+
+# A word handed in by itself.
+def read_word(word, letters):
+    return read_words(without_blanks(word), letters, WORD_ALONE)[0]
+
+
+def without_blanks(text):
+    return [sign for sign in text if sign != BLANK]
 
 
 def check_letters(letters):
@@ -76,9 +90,9 @@ def check_letters(letters):
 
 # One walk from left to right: whichever comes first, a fault or a word that is
 # too long, is what is told.
-def read_words(signs, letters):
+def read_words(signs, letters, outside):
     numbers = letter_numbers(letters)
-    levels = [Level(NO_BRACKET)]
+    levels = [Level(outside)]
     at = 0
     while at < len(signs):
         sign = signs[at]
@@ -94,8 +108,7 @@ def read_words(signs, letters):
             at = at + len(power)
     if len(levels) > 1:
         raise Wrong()
-    if signs:
-        end_word(levels[0])
+    end_word(levels[0])
     return levels[0].ended
 
 
@@ -108,7 +121,7 @@ def letter_numbers(letters):
 
 
 def take_comma(level):
-    if level.bracket == ROUND:
+    if level.bracket == ROUND or level.bracket == WORD_ALONE:
         raise Wrong()
     if level.bracket == SQUARE and level.ended:
         raise Wrong()

@@ -1,10 +1,11 @@
 """The calls: each takes numbers and lists of numbers and answers a list of numbers."""
 
 from tablegroups.circles import circle_sizes
-from tablegroups.reading import TooLong, Wrong, read_text
-from tablegroups.tables import count_all, count_unalike, is_normal, most_places, places_of, table_numbers, whole_moves
+from tablegroups.reading import TooLong, Wrong, read_text, read_word
+from tablegroups.tables import count_all, count_unalike, given_moves, is_normal, most_places, moved_to, no_place_moved
+from tablegroups.tables import places_of, table_numbers, whole_moves
 
-LONGEST_TEXT = 4096
+LONGEST = 4096
 MOST_PLACES_AT_ALL = 8
 
 COUNT_WHOLE = 0
@@ -15,6 +16,7 @@ COUNT_ALL = 3
 MOST_REFUSED = -1
 ARGUMENTS_REFUSED = -2
 TEXT_REFUSED = -3
+WORD_REFUSED = -4
 NO_SUCH_REFUSED = -5
 TOO_LONG_REFUSED = -6
 
@@ -28,6 +30,10 @@ class WrongArguments(Exception):
 
 
 class WrongText(Exception):
+    pass
+
+
+class WrongWord(Exception):
     pass
 
 
@@ -51,6 +57,10 @@ def gw_table(n, j, text):
     return answer_or_refusal(lambda: table_answer(n, j, text))
 
 
+def gw_move(n, text, word, table):
+    return answer_or_refusal(lambda: move_answer(n, text, word, table))
+
+
 # The one place that knows which number stands for which refusal.
 def answer_or_refusal(find_answer):
     try:
@@ -61,6 +71,8 @@ def answer_or_refusal(find_answer):
         return [ARGUMENTS_REFUSED]
     except WrongText:
         return [TEXT_REFUSED]
+    except WrongWord:
+        return [WORD_REFUSED]
     except NoSuch:
         return [NO_SUCH_REFUSED]
     except TooLong:
@@ -107,12 +119,22 @@ def table_answer(n, j, text):
     return [0] + tables[j]
 
 
+def move_answer(n, text, word, table):
+    check_length(word)
+    group = group_with_places(n, text)
+    written = word_of(word, group)
+    moves = given_moves(table, len(group.letters), n)
+    if moves is None or not no_place_moved(group.words, moves):
+        raise NoSuch()
+    return [0] + [moved_to(written, moves, place) for place in range(n)]
+
+
 def of_places(whole, n):
     return [moves for moves in whole if places_of(moves) == n]
 
 
-def check_length(text):
-    check_range(len(text), 0, LONGEST_TEXT)
+def check_length(signs):
+    check_range(len(signs), 0, LONGEST)
 
 
 def check_range(number, least, most):
@@ -134,3 +156,10 @@ def group_of(text):
         return read_text(text)
     except Wrong:
         raise WrongText() from None
+
+
+def word_of(word, group):
+    try:
+        return read_word(word, group.letters)
+    except Wrong:
+        raise WrongWord() from None

@@ -118,6 +118,19 @@ def moved_to(word, moves, place):
     return at
 
 
+# The moves of a table that is handed in, or None if a place is moved to by none
+# or by several.
+def given_moves(table, letters, places):
+    moves = {}
+    for letter in range(1, letters + 1):
+        row = table[(letter - 1) * places:letter * places]
+        if sorted(row) != list(range(places)):
+            return None
+        moves[letter] = row
+        moves[-letter] = [row.index(place) for place in range(places)]
+    return moves
+
+
 # The table's numbers: the first letter's places, then the next one's.
 def table_numbers(moves):
     numbers = []

@@ -15,6 +15,17 @@ WRONG_TEXTS = ("", " ", "|", "a", "ab", "|a", "aa|", "A|a", "abcdefghi|", "a||",
                "ab|a1234", "ab|a1-1", "ab|a?", "ab|a\n", "ab|" + ",".join(["a"] * 33), "ab|b,c," + FULL + "a",
                "ab|" + "(" * 33 + "a" + ")" * 33, "ab|" + "(" * 2000)
 
+# Words of a group of the letters a and b alone that are wrong, and that are too long.
+WRONG_WORDS = ("", " ", "    ", "c", "C", "ac", "(c)", "z2", "ab|", "|", "ab|a", "a|b", ",", "a,b", "a,", ",a", "(a),b",
+               "[a,b],a", "()", "a()", "(", ")", "(a", "a)", "(a))", "((a)", "(a]", "[a,b)", "[a]", "[a,]", "[,a]", "[,]",
+               "[]", "[a,b,a]", "(a,b)", "[(a,b)]", "]", "[", "1", "2a", "-1", "-", "a-", "a--1", "a1234", "a-1234", "a0000",
+               "a1-1", "a1-", "(-1)", "[1,a]", "(a)-", "[a,b]1234", "a+b", "a^2", "a.", "a\n", "a\t", "a\0", "a?", "\xff",
+               "(" * 33 + "a" + ")" * 33, "(" * 2000 + "a" + ")" * 2000, "[" * 33 + "a0" + ",a0]" * 33, "(" * 4096,
+               "a,(a64)65", "c(a64)65", "a|(a64)65", FULL + "a1000", FULL + "c", FULL + ",a", "(a64)1000", "[" + FULL + "]")
+TOO_LONG_WORDS = (FULL + "a", "a" + FULL, "b(a64)64", "(a64)65", "(a64)-65", "(" + FULL + "a)0", "[a999a25,b999b26]",
+                  "[a999a25,b999b26]0", "(a999)999", FULL + "b,a", FULL + "a|", FULL + "a)", "(" + FULL + "b", "(a64)65c",
+                  "(" * 13 + "a" + ")2" * 13)
+
 # The largest n by the letters, and the largest one that n! taken to their number leaves at 20000 or below.
 LARGEST = {1: 8, 2: 7, 3: 5, 4: 4, 5: 3, 6: 3, 7: 3, 8: 3}
 LARGEST_ASKED = {1: 7, 2: 5, 3: 4, 4: 3, 5: 3, 6: 2, 7: 2, 8: 2}

@@ -2,7 +2,7 @@
 
 import unittest
 
-from tablegroups.reading import TooLong, Wrong, read_text
+from tablegroups.reading import TooLong, Wrong, read_text, read_word
 
 
 def group_of(text):
@@ -48,6 +48,12 @@ class WrittenOut(unittest.TestCase):
     def test_refusals(self):
         self.assertRaises(Wrong, group_of, "ab|c")
         self.assertRaises(TooLong, group_of, "ab|(a64)65")
+
+    def test_word_by_itself(self):
+        self.assertEqual(read_word([ord(sign) for sign in " (bA) -2 [a,b]"], [98, 97]), [2, -1, 2, -1, 2, 1, -2, -1])
+        for word in ("", "a,b", "a|", "c"):
+            self.assertRaises(Wrong, read_word, [ord(sign) for sign in word], [98, 97])
+        self.assertRaises(TooLong, read_word, [ord(sign) for sign in "(a64)65,"], [97])
 
 
 if __name__ == "__main__":
