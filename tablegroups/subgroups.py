@@ -61,6 +61,10 @@ def gw_move(n, text, word, table):
     return answer_or_refusal(lambda: move_answer(n, text, word, table))
 
 
+def gw_same(n, text, word):
+    return answer_or_refusal(lambda: same_answer(n, text, word))
+
+
 # The one place that knows which number stands for which refusal.
 def answer_or_refusal(find_answer):
     try:
@@ -127,6 +131,18 @@ def move_answer(n, text, word, table):
     if moves is None or not no_place_moved(group.words, moves):
         raise NoSuch()
     return [0] + [moved_to(written, moves, place) for place in range(n)]
+
+
+# Whichever place of a table is moved, the places that one comes to from it are,
+# as they are met, a whole table in order of n or fewer, whose 0 is moved.
+def same_answer(n, text, word):
+    check_length(word)
+    group = group_with_places(n, text)
+    written = word_of(word, group)
+    for moves in whole_moves(group, n):
+        if moved_to(written, moves, 0) != 0:
+            return [0]
+    return [1]
 
 
 def of_places(whole, n):
