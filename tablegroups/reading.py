@@ -26,6 +26,8 @@ WORD_ALONE = 1
 
 GREAT_TO_SMALL = 32
 
+NO_ORDER = 0
+
 
 class Wrong(Exception):
     pass
@@ -37,9 +39,11 @@ class TooLong(Exception):
 
 # Letters are kept as their small bytes, in the text's order. A word is a list
 # of numbers: 1 for the first letter, -1 for its inverse, 2 for the second ...
+# The words' signs are kept too, so that they can be written out otherwise.
 class Group:
-    def __init__(self, letters, words):
+    def __init__(self, letters, signs, words):
         self.letters = letters
+        self.signs = signs
         self.words = words
 
 
@@ -62,16 +66,27 @@ def read_text(text):
     letters = signs[:bar]
     check_letters(letters)
     word_signs = signs[bar + 1:]
-    words = read_words(word_signs, letters, WORDS_OF_TEXT) if word_signs else []
+    words = words_of_text(word_signs, letters, NO_ORDER)
     # Only here, so that a word that is too long is told even behind the 32nd.
     if len(words) > MOST_WORDS:
         raise Wrong()
-    return Group(letters, words)
+    return Group(letters, word_signs, words)
+
+
+# The group's words where all that comes so often as the order is nothing.
+def words_by_order(group, order):
+    return words_of_text(group.signs, group.letters, order)
 
 
 # A word handed in by itself.
 def read_word(word, letters):
-    return read_words(without_blanks(word), letters, WORD_ALONE)[0]
+    return read_words(without_blanks(word), letters, WORD_ALONE, NO_ORDER)[0]
+
+
+def words_of_text(signs, letters, order):
+    if not signs:
+        return []
+    return read_words(signs, letters, WORDS_OF_TEXT, order)
 
 
 def without_blanks(text):
@@ -90,7 +105,7 @@ def check_letters(letters):
 
 # One walk from left to right: whichever comes first, a fault or a word that is
 # too long, is what is told.
-def read_words(signs, letters, outside):
+def read_words(signs, letters, outside, order):
     numbers = letter_numbers(letters)
     levels = [Level(outside)]
     at = 0
@@ -104,7 +119,7 @@ def read_words(signs, letters, outside):
         else:
             part = end_part(levels, sign, numbers)
             power = power_signs(signs, at)
-            add_part(levels[-1], part, power_number(power))
+            add_part(levels[-1], part, least_power(power_number(power), order))
             at = at + len(power)
     if len(levels) > 1:
         raise Wrong()
@@ -196,6 +211,14 @@ def power_number(signs):
     for digit in digits:
         number = number * 10 + digit - ZERO
     return -number if negative else number
+
+
+# The same power, where the order is nothing, with the fewest letters.
+def least_power(power, order):
+    if order == NO_ORDER:
+        return power
+    left = power % order
+    return left - order if 2 * left > order else left
 
 
 def add_part(level, part, power):

@@ -1,6 +1,12 @@
 """Tables of how letters move places: all whole ones in order that are a group's, and what they are like."""
 
+from tablegroups.reading import words_by_order
+
+# By the number of letters, from 1 on.
 MOST_PLACES = (8, 7, 5, 4, 3, 3, 3, 3)
+
+# By the number of places, from 1 on: whatever moves them, so often it moves none.
+ORDERS = (1, 2, 6, 12, 60, 60, 420, 840)
 
 NOWHERE = -1
 
@@ -18,7 +24,7 @@ def most_places(group):
 # wasn't met being the next one: so each table in order comes up once. What is
 # begun is given up as soon as a word moves a place in it.
 def whole_moves(group, most):
-    words = telling_words(group.words)
+    words = telling_words(words_by_order(group, ORDERS[most - 1]))
     begun = [first_moves(len(group.letters))]
     found = []
     while begun:
@@ -32,13 +38,14 @@ def whole_moves(group, most):
     return found
 
 
-# Words are gone through for each table, so all that tells nothing is left out
-# ahead: a letter beside its inverse, and a word that comes again.
+# Words are gone through again and again, so all that tells nothing is left out
+# ahead: a letter beside its inverse, and a word that comes again. Short words
+# come first, as they are soonest known to move a place.
 def telling_words(words):
     telling = {}
     for word in words:
         telling[tuple(shortened(word))] = True
-    return [word for word in telling if word]
+    return sorted([word for word in telling if word], key=len)
 
 
 def shortened(word):

@@ -106,6 +106,28 @@ class ComparedWithAllTables(unittest.TestCase):
                 self.compare("ba|" + "".join(word), (2, 3))
 
 
+class Powers(Cases):
+    def test_every_power(self):
+        for power in range(1000):
+            for n in range(1, 9):
+                expected = [int(power % n == 0)]
+                self.assertEqual(count(n, 0, f"a|a{power}"), expected, (n, power))
+                self.assertEqual(count(n, 0, f"a|(A)-{power}"), expected, (n, power))
+
+    def test_every_power_of_brackets(self):
+        # With ab as a letter in the place of a, it's the same group.
+        for power in range(0, 131):
+            for n, what in ((2, 3), (3, 1), (4, 0)):
+                self.assertEqual(count(n, what, f"ab|(ab)-{power}"), count(n, what, f"ab|a{power}"), (n, power))
+                self.assertEqual(count(n, what, f"ab|[a,b]{power}"), count(n, what, f"ba|[A,b]-{power}"), (n, power))
+
+    def test_powers_compared_with_all_tables(self):
+        for power in list(range(-7, 14)) + [23, 24, 25, -59, 60, 61, 119, 418, 419, 840, 997]:
+            for text in (f"ab|a{power}b", f"ba|(ab){power}a2", f"ab|[a,b]{power},((aB){power})2b3"):
+                for n in (2, 3):
+                    self.assertEqual([count(n, what, text)[0] for what in range(4)], counted(text, n), (text, n))
+
+
 class Edges(Cases):
     def test_one_place(self):
         for text in GROUP_TEXTS:

@@ -2,7 +2,7 @@
 
 import unittest
 
-from tablegroups.reading import TooLong, Wrong, read_text, read_word
+from tablegroups.reading import TooLong, Wrong, read_text, read_word, words_by_order
 
 
 def group_of(text):
@@ -44,6 +44,13 @@ class WrittenOut(unittest.TestCase):
     def test_power_of_nothing(self):
         self.words("ab|a0", [[]])
         self.words("ab|a0,b(ab)-0", [[], [2]])
+
+    def test_words_where_an_order_is_nothing(self):
+        group = group_of("ab|a7,(ab)-5b,[a,b]6,b3a-3,(a4)2,a-1,A")
+        self.assertEqual(words_by_order(group, 6), [[1], [1, 2, 2], [], [2, 2, 2, 1, 1, 1], [-1, -1, -1, -1], [-1], [-1]])
+        self.assertEqual(words_by_order(group, 1), [[]] * 7)
+        self.assertEqual(words_by_order(group, 840), group.words)
+        self.assertEqual(words_by_order(group_of("ab| "), 6), [])
 
     def test_refusals(self):
         self.assertRaises(Wrong, group_of, "ab|c")
